@@ -1,0 +1,1 @@
+"""Typefault: a typewriter with faults."""

@@ -1,0 +1,50 @@
+"""Faults: the ranges of their numbers, and which of them clash."""
+
+
+def is_number(value, low, high):
+    """Tell whether a value is an integer from low to high, which a boolean is not."""
+    return isinstance(value, int) and not isinstance(value, bool) and low <= value <= high
+
+
+def fault_in_range(keyboard, width, fault):
+    """Tell whether a fault has no number out of its range."""
+    word = fault[0]
+    last_key = len(keyboard) - 1
+    if word in ("dead", "double", "stuck"):
+        return is_number(fault[1], 0, last_key)
+    if word == "swap":
+        return is_number(fault[2], 0, last_key) and is_number(fault[1], 0, fault[2] - 1)
+    if word == "slip":
+        return is_number(fault[1], 1, width - 2)
+    if word == "feed":
+        return is_number(fault[1], 0, 2) and fault[1] != 1
+    return True
+
+
+def claims(fault):
+    """Return what a fault claims for itself alone, so that no fault beside it can claim it."""
+    word = fault[0]
+    if word in ("dead", "double", "stuck", "swap"):
+        return [("key", key) for key in fault[1:]]
+    if word in ("down", "up"):
+        return [("lock",)]
+    if word == "feed":
+        return [("feed",)]
+    return [fault]
+
+
+def clashes(fault, others):
+    """Tell whether a fault clashes with one of several others."""
+    claimed = claims(fault)
+    for other in others:
+        if any([claim in claimed for claim in claims(other)]):
+            return True
+    return False
+
+
+def first_wrong_fault(keyboard, width, faults):
+    """Return the index of the first fault that is out of range or clashes with an earlier one, or None."""
+    for index, fault in enumerate(faults):
+        if not fault_in_range(keyboard, width, fault) or clashes(fault, faults[:index]):
+            return index
+    return None
