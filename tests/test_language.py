@@ -1,6 +1,7 @@
 """The rules of the language that a short program can check: files, characters, sizes, imports, names."""
 
 import ast
+import builtins
 import pathlib
 import re
 import unittest
@@ -8,6 +9,13 @@ import unittest
 PACKAGE = pathlib.Path(__file__).parent.parent / "typefault"
 LIBRARY = ("heapq", "math", "itertools", "collections")
 FUNCTIONS = (ast.FunctionDef, ast.AsyncFunctionDef)
+BUILTINS = set("""len range enumerate zip min max sum abs sorted reversed int str bool list tuple dict set isinstance
+    ord repr any all divmod iter next super property staticmethod classmethod
+    Exception ValueError KeyError IndexError LookupError TypeError NotImplemented""".split())
+METHODS = set("""append clear copy count endswith extend find get index insert isalnum isalpha isdigit islower isspace
+    isupper items join keys ljust lower lstrip partition pop remove replace reverse rfind rjust rpartition rsplit
+    rstrip setdefault split splitlines startswith strip update upper values zfill bit_length add discard
+    __init__""".split())
 
 
 def files():
@@ -24,6 +32,27 @@ def bound_names(tree):
             names.append(node.name)
         elif isinstance(node, ast.Assign):
             names += [target.id for target in node.targets]
+    return names
+
+
+def imports_and_classes(tree):
+    names = set()
+    for node in tree.body:
+        if isinstance(node, ast.ImportFrom):
+            names |= {alias.asname or alias.name for alias in node.names}
+        elif isinstance(node, ast.ClassDef):
+            names.add(node.name)
+    return names
+
+
+def local_names(tree):
+    """The names of all parameters and local variables of a module."""
+    names = set()
+    for function in ast.walk(tree):
+        if isinstance(function, FUNCTIONS):
+            names |= {node.arg for node in ast.walk(function) if isinstance(node, ast.arg)}
+            names |= {node.id for node in ast.walk(function)
+                      if isinstance(node, ast.Name) and isinstance(node.ctx, ast.Store)}
     return names
 
 
@@ -61,3 +90,40 @@ class LanguageTest(unittest.TestCase):
             names = bound_names(ast.parse(path.read_text(encoding="utf-8")))
             with self.subTest(file=path.name):
                 self.assertEqual(sorted(names), sorted(set(names)))
+
+    def test_local_names_are_no_builtins_imports_or_classes(self):
+        for path in files():
+            tree = ast.parse(path.read_text(encoding="utf-8"))
+            taken = set(dir(builtins)) | imports_and_classes(tree)
+            with self.subTest(file=path.name):
+                self.assertEqual(sorted(local_names(tree) & taken), [])
+
+    def test_builtins_that_are_called_are_allowed(self):
+        for path in files():
+            for node in ast.walk(ast.parse(path.read_text(encoding="utf-8"))):
+                if isinstance(node, ast.Name) and node.id in dir(builtins):
+                    with self.subTest(file=path.name, line=node.lineno):
+                        self.assertIn(node.id, BUILTINS)
+
+    def test_methods_of_builtin_values_are_allowed(self):
+        own = {node.name for path in files() for node in ast.walk(ast.parse(path.read_text(encoding="utf-8")))
+               if isinstance(node, ast.FunctionDef)}
+        for path in files():
+            for node in ast.walk(ast.parse(path.read_text(encoding="utf-8"))):
+                if isinstance(node, ast.Call) and isinstance(node.func, ast.Attribute):
+                    with self.subTest(file=path.name, line=node.lineno):
+                        self.assertIn(node.func.attr, own | METHODS)
+
+    def test_statements_and_expressions_that_are_not_used(self):
+        barred = (ast.AsyncFunctionDef, ast.Await, ast.Global)
+        for path in files():
+            for node in ast.walk(ast.parse(path.read_text(encoding="utf-8"))):
+                with self.subTest(file=path.name, line=getattr(node, "lineno", 0)):
+                    self.assertNotIsInstance(node, barred)
+                    self.assertNotIsInstance(getattr(node, "op", None), (ast.Div, ast.MatMult))
+                    if isinstance(node, ast.Constant):
+                        self.assertNotIsInstance(node.value, (float, complex, bytes))
+                    if isinstance(node, ast.Constant) and isinstance(node.value, str):
+                        self.assertNotIn("%", node.value)
+                    if isinstance(node, ast.Call) and getattr(node.func, "id", "") in ("any", "all", "sorted", "sum"):
+                        self.assertNotIsInstance(node.args[0], ast.GeneratorExp)

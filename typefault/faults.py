@@ -35,16 +35,24 @@ def claims(fault):
 
 def clashes(fault, others):
     """Tell whether a fault clashes with one of several others."""
-    claimed = claims(fault)
-    for other in others:
-        if any([claim in claimed for claim in claims(other)]):
-            return True
-    return False
+    claimed = [claim for other in others for claim in claims(other)]
+    return any([claim in claimed for claim in claims(fault)])
+
+
+def have_clash(faults):
+    """Tell whether two of several faults clash."""
+    claimed = [claim for fault in faults for claim in claims(fault)]
+    return len(set(claimed)) < len(claimed)
 
 
 def first_wrong_fault(keyboard, width, faults):
     """Return the index of the first fault that is out of range or clashes with an earlier one, or None."""
+    claimed = {}
     for index, fault in enumerate(faults):
-        if not fault_in_range(keyboard, width, fault) or clashes(fault, faults[:index]):
+        if not fault_in_range(keyboard, width, fault):
             return index
+        for claim in claims(fault):
+            if claim in claimed:
+                return index
+            claimed[claim] = True
     return None
