@@ -74,6 +74,49 @@ def sheet_by(machine, strokes):
     return typist_behind(machine, strokes).sheet()
 
 
+def sheet_worn_by(machine, wears, strokes):
+    typist = Typist(machine.keyboard.key_signs, machine.width, machine.faults)
+    for index, stroke in enumerate(strokes):
+        come = [fault for count, fault in wears if count <= index]
+        now = Typist(machine.keyboard.key_signs, machine.width, list(machine.faults) + come)
+        now.line, now.column, now.locked, now.ink = typist.line, typist.column, typist.locked, typist.ink
+        now.strike(stroke)
+        typist = now
+    return typist.sheet()
+
+
+def strokes_of_text(keys, text):
+    """Each sign by the word that it needs, then the words that change nothing are left out."""
+    strokes = []
+    locked = "down"
+    for sign in text:
+        if sign in " \n":
+            strokes.append({" ": "space", "\n": "return"}[sign])
+            continue
+        key = [index for index, signs in enumerate(keys) if sign in signs][0]
+        word = ("down", "up")[keys[key].index(sign)]
+        strokes += [key] if word == locked else [word, key]
+        locked = word
+    return strokes
+
+
+def depth_of(rows, tests):
+    """How many tests are needed in the worst case; all tests of the list are tried next, useful or not."""
+    if all(row[test] == rows[0][test] for row in rows for test in tests):
+        return 0
+    best = len(tests)
+    for test in tests:
+        parts = []
+        for row in rows:
+            same = [part for part in parts if part[0][test] == row[test]]
+            if same:
+                same[0].append(row)
+            else:
+                parts.append([row])
+        best = min(best, 1 + max(depth_of(part, [other for other in tests if other != test]) for part in parts))
+    return best
+
+
 def text_of(sheet):
     """The text of a sheet, by a grid of blanks that is filled and then cut."""
     if not sheet:

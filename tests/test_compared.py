@@ -7,9 +7,14 @@ import unittest
 from tests import reference
 from typefault.apart import difference, groups, told_apart
 from typefault.cases import Case, fault_sets, fewest, first_wrong, judged, machine_of, possible
+from typefault.errors import InvalidText, InvalidWears
+from typefault.far import line_far, state_far
 from typefault.keyboards import Keyboard
 from typefault.machines import Machine
 from typefault.sheets import shown, spoiled, state_after, typed
+from typefault.texts import confused, meant, strokes_of
+from typefault.trials import fewest_tests, next_test, outcome_counts
+from typefault.wears import possible_wears, typed_worn
 from typefault.working import guilty, harmless, least_repairs, strokes_for
 
 KEYBOARD = Keyboard(("aA", "bB", "1!"))
@@ -142,3 +147,104 @@ class ComparedTest(unittest.TestCase):
                 self.assertEqual(least_repairs(machine, strokes), (len(repairs[0]), repairs[0]))
                 self.assertEqual(harmless(machine, strokes), alone)
                 self.assertEqual(guilty(machine, strokes), without)
+
+    def test_far(self):
+        for _ in range(250):
+            machine, strokes = machine_from(self.source, 4), self.strokes(12)
+            count = self.source.randint(0, 9)
+            typist = reference.typist_behind(machine, strokes * count)
+            lines = reference.text_of(typist.sheet()).split("\n")
+            with self.subTest(faults=machine.faults, width=machine.width, strokes=strokes, count=count):
+                self.assertEqual(state_far(machine, strokes, count), typist.state())
+                for line in range(len(lines) + 2):
+                    expected = lines[line] if line < len(lines) else ""
+                    self.assertEqual(line_far(machine, strokes, count, line), expected)
+
+    def test_farther(self):
+        """The carriage and the lock come back after at most 40 repetitions, so that far ones are like near ones."""
+        period = 840
+        for _ in range(100):
+            machine, strokes = machine_from(self.source, 4, widths=(3, 4)), self.strokes(6)
+            near, far = 50, 50 + 10 ** 12 * period
+            each = reference.typist_behind(machine, strokes).line
+            typist = reference.typist_behind(machine, strokes * near)
+            lines = reference.text_of(typist.sheet()).split("\n")
+            with self.subTest(faults=machine.faults, width=machine.width, strokes=strokes):
+                line, column, locked = typist.state()
+                self.assertEqual(state_far(machine, strokes, far), (line + each * (far - near), column, locked))
+                for back in range(3 * each):
+                    expected = lines[line - back] if line - back < len(lines) else ""
+                    self.assertEqual(line_far(machine, strokes, far, line + each * (far - near) - back), expected)
+
+    def test_trials(self):
+        for _ in range(120):
+            case = case_from(self.source, self.source.randint(0, 6), self.source.randint(0, 3))
+            evidence = self.evidence(case)
+            left = [faults for faults in reference.sets_of(case.pool, case.most) if fits(case, faults, evidence)]
+            tests = [self.strokes(5) for _ in range(self.source.randint(0, 4))]
+            rows = [[reference.sheet_by(Machine(KEYBOARD, case.width, faults), test) for test in tests]
+                    for faults in left]
+            for index, test in enumerate(tests):
+                column = [row[index] for row in rows]
+                firsts = [at for at, sheet in enumerate(column) if column.index(sheet) == at]
+                expected = [column.count(column[at]) for at in firsts]
+                self.assertEqual(outcome_counts(case, evidence, test), expected)
+            if left:
+                worst = [max([row[index] for row in rows].count(row[index]) for row in rows)
+                         for index in range(len(tests))]
+                self.assertEqual(next_test(case, evidence, tests), worst.index(min(worst)) if tests else None)
+                self.assertEqual(fewest_tests(case, evidence, tests), reference.depth_of(rows, range(len(tests))))
+
+    def test_wears(self):
+        for _ in range(250):
+            machine, strokes = machine_from(self.source, 2), self.strokes(10)
+            faults = [reference.random_fault(self.source, 3, machine.width) for _ in range(3)]
+            wears = [(self.source.randint(0, 10), fault) for fault in faults]
+            with self.subTest(faults=machine.faults, width=machine.width, wears=wears, strokes=strokes):
+                having = list(machine.faults) + faults
+                wrong = [index for index in range(3) if any(reference.clash(faults[index], other)
+                                                            for other in having[:len(machine.faults) + index])]
+                if wrong:
+                    with self.assertRaises(InvalidWears) as caught:
+                        typed_worn(machine, wears, strokes)
+                    self.assertEqual(caught.exception.index, wrong[0])
+                else:
+                    sheet = typed_worn(machine, wears, strokes)
+                    expected = reference.sheet_worn_by(machine, wears, strokes)
+                    self.assertEqual(list(sheet.items()), list(expected.items()))
+
+    def test_possible_wears(self):
+        for _ in range(60):
+            case, strokes = case_from(self.source, 6, 0), self.strokes(8)
+            machine = Machine(KEYBOARD, case.width, ())
+            wears = sorted((count, fault) for count in range(len(strokes)) for fault in case.pool)
+            sheets = [reference.sheet_worn_by(machine, [wear], strokes) for wear in wears]
+            for sheet in sheets[:6] + [typed(machine, strokes)]:
+                expected = [wear for wear, other in zip(wears, sheets) if other == sheet]
+                self.assertEqual(possible_wears(case, strokes, sheet), expected)
+
+    def test_texts(self):
+        for _ in range(150):
+            machine = machine_from(self.source, 4)
+            texts = ["".join(self.source.choice("aAbB1! \n") for _ in range(self.source.randint(0, 3)))
+                     for _ in range(8)]
+            sheets = [reference.sheet_by(machine, reference.strokes_of_text(KEYBOARD.key_signs, text))
+                      for text in texts]
+            pairs = [(one, other) for other in range(8) for one in range(other) if sheets[one] == sheets[other]]
+            with self.subTest(faults=machine.faults, texts=texts):
+                self.assertEqual(confused(machine, texts), sorted(pairs))
+                self.assertEqual(meant(machine, texts, sheets[3]), [at for at in range(8) if sheets[at] == sheets[3]])
+
+    def test_strokes_of(self):
+        for _ in range(150):
+            text = "".join(self.source.choice("aaAbB1! \n") for _ in range(self.source.randint(20, 60)))
+            with self.subTest(text=text):
+                too_long = [index for index in range(len(text))
+                            if len(reference.strokes_of_text(KEYBOARD.key_signs, text[:index + 1])) > 60]
+                if too_long:
+                    with self.assertRaises(InvalidText) as caught:
+                        strokes_of(KEYBOARD, text)
+                    self.assertEqual(caught.exception.index, too_long[0])
+                else:
+                    expected = reference.strokes_of_text(KEYBOARD.key_signs, text)
+                    self.assertEqual(strokes_of(KEYBOARD, text), expected)

@@ -1,8 +1,8 @@
 """Which strokes tell machines, or sets of faults, apart."""
 
 from typefault.cases import fault_sets
-from typefault.errors import InvalidNumber, InvalidTests, UnlikeMachines
-from typefault.faults import is_number
+from typefault.errors import InvalidTests, UnlikeMachines
+from typefault.faults import check_number
 from typefault.machines import Machine
 from typefault.sheets import START, after_stroke, all_strokes, first_wrong_stroke, sheet_after, sheet_of
 
@@ -51,8 +51,7 @@ def difference(machine, other, most):
     """Return the shortest list of at most so many strokes by which two machines differ, or None."""
     if machine.keyboard != other.keyboard or machine.width != other.width:
         raise UnlikeMachines("the keyboards or the widths are not equal")
-    if not is_number(most, 0, MOST_TO_TELL):
-        raise InvalidNumber(f"not from 0 to {MOST_TO_TELL}: {most!r}")
+    check_number(most, MOST_TO_TELL)
     return telling_list([machine, other], most)
 
 

@@ -1,9 +1,17 @@
 """Faults: the ranges of their numbers, and which of them clash."""
 
+from typefault.errors import InvalidNumber
+
 
 def is_number(value, low, high):
     """Tell whether a value is an integer from low to high, which a boolean is not."""
     return isinstance(value, int) and not isinstance(value, bool) and low <= value <= high
+
+
+def check_number(number, most):
+    """Raise InvalidNumber if a number is not from 0 to the most that it can be."""
+    if not is_number(number, 0, most):
+        raise InvalidNumber(f"not from 0 to {most}: {number!r}")
 
 
 def fault_in_range(keyboard, width, fault):
