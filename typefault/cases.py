@@ -98,11 +98,16 @@ def how_often(fault, sets):
     return "perhaps" if having else "never"
 
 
+def check_in_pool(case, fault):
+    """Raise UnknownFaults if a fault is not in the pool."""
+    if fault not in case.pool:
+        raise UnknownFaults(f"the pool has no {fault!r}")
+
+
 def judged(case, evidence, fault):
     """Return "surely", "perhaps" or "never", as a fault is in all, some or no possible sets."""
     sets = possible(case, evidence)
-    if fault not in case.pool:
-        raise UnknownFaults(f"the pool has no {fault!r}")
+    check_in_pool(case, fault)
     if not sets:
         raise NoFit("no set of faults is possible")
     return how_often(fault, sets)
