@@ -8,6 +8,8 @@ import unittest
 from typefault import errors
 
 FOLDER = pathlib.Path(__file__).parent / "examples"
+MODULES = ["apart", "benches", "cases", "codec", "costs", "daybooks", "far", "keyboards", "machines", "notation",
+           "reveals", "several", "sheets", "tables", "texts", "trials", "wears", "working"]
 
 
 def blocks_of(path):
@@ -37,7 +39,7 @@ class ExamplesTest(unittest.TestCase):
 
     def test_examples(self):
         paths = sorted(FOLDER.glob("*.txt"))
-        self.assertTrue(paths)
+        self.assertEqual([path.stem for path in paths], MODULES)
         for path in paths:
             for statements, expected in blocks_of(path):
                 with self.subTest(file=path.name, expression=statements[-1]):

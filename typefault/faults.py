@@ -2,6 +2,10 @@
 
 from typefault.errors import InvalidNumber
 
+# The words of all faults, ascending, and how many numbers each one has.
+NUMBERS_OF_FAULTS = {"back": 0, "dead": 1, "double": 1, "down": 0, "feed": 1, "slip": 1, "space": 0, "stuck": 1,
+                     "swap": 2, "up": 0}
+
 
 def is_number(value, low, high):
     """Tell whether a value is an integer from low to high, which a boolean is not."""
