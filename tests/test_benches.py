@@ -518,6 +518,47 @@ class TrialTest(BenchTestCase):
                 self.assertIs(caught.exception, error)
                 self.assertEqual(told(self.bench), changed if held else self.before)
 
+    def check_block(self, trial, name, held, error):
+        """Behind a block that marks this name, left by this error or None, the bench is as held or not tells."""
+        before = told(self.bench)
+        caught = None
+        try:
+            with trial as entered:
+                self.assertIs(entered, trial)
+                self.bench.undo()
+                self.bench.mark(name)
+                self.bench.repair(STUCK)
+                self.bench.undo()
+                changed = told(self.bench)
+                self.assertNotEqual(changed, before)
+                if held:
+                    trial.hold()
+                if error is not None:
+                    raise error
+        except WriterError as left:
+            caught = left
+        self.assertIs(caught, error)
+        self.assertEqual(told(self.bench), changed if held else before)
+
+    def test_held_or_not_with_and_without_an_error(self):
+        for held in (False, True):
+            for error in (None, NoFit("x")):
+                with self.subTest(held=held, error=error):
+                    self.setUp()
+                    self.check_block(Trial(self.bench), "y", held, error)
+
+    def test_one_trial_entered_twice(self):
+        for first_held, second_held in ((True, False), (False, True), (True, True), (False, False)):
+            for first_error in (None, NoFit("x")):
+                for second_error in (None, NoFit("y")):
+                    with self.subTest(held=(first_held, second_held), errors=(first_error, second_error)):
+                        self.setUp()
+                        trial = Trial(self.bench)
+                        self.check_block(trial, "y", first_held, first_error)
+                        # The second block goes back to its own beginning, not to that of the first one.
+                        self.bench.apply_all([("mark", "v"), ("repair", DEAD), ("wear", UP), ("undo",)])
+                        self.check_block(trial, "z", second_held, second_error)
+
     def test_an_error_of_an_operation_leaves_it(self):
         with self.assertRaises(UnknownFaults):
             with Trial(self.bench):

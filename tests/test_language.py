@@ -56,6 +56,17 @@ def local_names(tree):
     return names
 
 
+def asks_for_none_only(test):
+    """Tell whether a test is a name or attribute and `is None` or `is not None`, or `and`, `or`, `not` of such."""
+    if isinstance(test, ast.BoolOp):
+        return all(asks_for_none_only(value) for value in test.values)
+    if isinstance(test, ast.UnaryOp):
+        return isinstance(test.op, ast.Not) and asks_for_none_only(test.operand)
+    return (isinstance(test, ast.Compare) and isinstance(test.left, (ast.Name, ast.Attribute))
+            and len(test.ops) == 1 and isinstance(test.ops[0], (ast.Is, ast.IsNot))
+            and isinstance(test.comparators[0], ast.Constant) and test.comparators[0].value is None)
+
+
 class LanguageTest(unittest.TestCase):
     def test_the_folder_contains_plain_files_only(self):
         self.assertIn(PACKAGE / "__init__.py", files())
@@ -76,6 +87,18 @@ class LanguageTest(unittest.TestCase):
                 if isinstance(node, FUNCTIONS):
                     with self.subTest(file=path.name, function=node.name):
                         self.assertLessEqual(node.end_lineno - node.lineno + 1, 40)
+
+    def test_an_exit_asks_for_none_only(self):
+        asked = 0
+        for path in files():
+            for function in ast.walk(ast.parse(path.read_text(encoding="utf-8"))):
+                if isinstance(function, FUNCTIONS) and function.name == "__exit__":
+                    for node in ast.walk(function):
+                        if isinstance(node, ast.If):
+                            asked += 1
+                            with self.subTest(file=path.name, line=node.lineno):
+                                self.assertTrue(asks_for_none_only(node.test))
+        self.assertGreater(asked, 0)
 
     def test_imports_come_from_the_package_or_the_named_library(self):
         for path in files():

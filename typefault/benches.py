@@ -191,17 +191,19 @@ class Trial:
         self._bench = bench
         self._steps = ()
         self._undone = ()
-        self._held = False
+        # None until the trial is held, as `__exit__` may ask no more of it than whether it is None.
+        self._held = None
 
     def __enter__(self):
         self._steps = self._bench._steps
         self._undone = self._bench._undone
-        self._held = False
+        # The trial may have been held in an earlier block, which says nothing about this one.
+        self._held = None
         return self
 
     def __exit__(self, kind, value, trace):
         bench = self._bench
-        if not self._held:
+        if self._held is None:
             bench._steps = self._steps
             bench._undone = self._undone
         return False
